@@ -28,8 +28,11 @@ func TestP5Kinds(t *testing.T) {
 	p := resolved(t, "var v;func main(){x=v;v=x;v=1;x=y;x=1;x=y+1;if x{x=v;}}")
 	want := []int{api.SLoad, api.SStore, api.SStore, api.SSet, api.SSet, api.SSet, api.SIf, api.SLoad}
 	var got []int
-	for _, s := range p.Statements {
+	for i, s := range p.Statements {
 		got = append(got, s.Kind)
+		if s.Place != i {
+			t.Errorf("statement %d is at place %d", i, s.Place)
+		}
 	}
 	if !slices.Equal(got, want) {
 		t.Errorf("kinds %v, want %v", got, want)

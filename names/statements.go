@@ -14,7 +14,8 @@ func (n *namer) block(f *function, l []*tree.Statement) {
 
 // statement goes through a statement in the order in which its faults count.
 func (n *namer) statement(f *function, s *tree.Statement) {
-	if len(n.program.Statements) == api.MaxPlaces {
+	s.Place = len(n.program.Statements)
+	if s.Place == api.MaxPlaces {
 		fault.Throw(api.ErrFull, s.At)
 	}
 	n.program.Statements = append(n.program.Statements, s)

@@ -1,6 +1,7 @@
 package races
 
 import (
+	"math"
 	"runtime"
 	"slices"
 	"strings"
@@ -39,6 +40,7 @@ func ask(t *testing.T, text string) {
 	if !slices.IsSorted(places) || len(slices.Compact(slices.Clone(places))) != len(places) {
 		t.Fatalf("%q: places do not rise: %v", text, places)
 	}
+	askMachine(t, p.Start(), len(text))
 	printed := p.Print()
 	if len(printed) > api.MaxText {
 		return
@@ -46,6 +48,29 @@ func ask(t *testing.T, text string) {
 	again, err := Read(printed)
 	if err != nil || again.Print() != printed || len(again.Places()) != len(places) {
 		t.Fatalf("%q: read again as printed it is another program: %v", text, err)
+	}
+}
+
+// askMachine lets a machine make a few steps, and checks what is so of all events.
+func askMachine(t *testing.T, m *Machine, seed int) {
+	t.Helper()
+	steps := 0
+	m.Run(func(ready []int) int {
+		return (steps + 1) * (seed - 40)
+	}, func(e api.Event) bool {
+		steps++
+		if e.Kind < api.SSet || e.Kind > api.Faulty || e.Thread < 0 || e.Thread >= m.Threads() || e.Val == nil {
+			t.Fatalf("an event that can't be: %v", e)
+		}
+		if m.Threads() > api.MaxThreads || m.Objects() > api.MaxObjects {
+			t.Fatalf("%d threads, %d objects", m.Threads(), m.Objects())
+		}
+		return steps < 40
+	})
+	for p, n := range m.Copy().Races() {
+		if p.A < 0 || p.A > p.B || p.B >= api.MaxPlaces || n < 1 || n > steps {
+			t.Fatalf("a race that can't be: %v at step %d of %d", p, n, steps)
+		}
 	}
 }
 
@@ -105,6 +130,60 @@ func TestP1NoProgram(t *testing.T) {
 		if p.Print() != "" || len(p.Places()) != 0 {
 			t.Errorf("no program, but it has a text or places")
 		}
+		idle(t, p.Start())
+	}
+}
+
+// TestP1NoMachine: one that no program has started does nothing.
+func TestP1NoMachine(t *testing.T) {
+	var none *Machine
+	idle(t, none)
+	idle(t, none.Copy())
+	idle(t, &Machine{})
+}
+
+// idle: the machine answers, but there is nothing that it does.
+func idle(t *testing.T, m *Machine) {
+	t.Helper()
+	readyAre(t, m)
+	counts(t, m, 0, 0)
+	steps := m.Run(func([]int) int { return 0 }, yes)
+	if e := m.Step(0); steps != 0 || e != (api.Event{Val: api.Number(0)}) {
+		t.Errorf("nothing runs, but it makes %d steps and %s", steps, tell(e))
+	}
+	if r := m.Races(); r == nil || len(r) > 0 {
+		t.Errorf("nothing runs, but it races: %v", r)
+	}
+}
+
+// TestP1NoFunctions: a run without a function that chooses or sees makes no step.
+func TestP1NoFunctions(t *testing.T) {
+	m := started(t, writers)
+	zero := func([]int) int { return 0 }
+	if m.Run(nil, yes) != 0 || m.Run(zero, nil) != 0 || m.Run(nil, nil) != 0 {
+		t.Errorf("it makes steps")
+	}
+	if steps := m.Run(zero, yes); steps != 5 {
+		t.Errorf("%d steps behind them, want 5", steps)
+	}
+}
+
+// TestP1AllNumbers: no choice makes a step panic, and each makes one while someone is ready.
+func TestP1AllNumbers(t *testing.T) {
+	for _, c := range []int{0, 1, -1, 5, -5, 6, -6, 1 << 40, -1 << 40, math.MaxInt, math.MinInt, math.MinInt + 1} {
+		for _, text := range append(samples(), rich, writers) {
+			p, err := Read(text)
+			if err != nil {
+				continue
+			}
+			m := p.Start()
+			for k := 0; k < 200 && len(m.Ready()) > 0; k++ {
+				ready := m.Ready()
+				if e := m.Step(c); e.Kind == 0 || !slices.Contains(ready, e.Thread) {
+					t.Fatalf("%q, choice %d: %s, ready are %v", text, c, tell(e), ready)
+				}
+			}
+		}
 	}
 }
 
@@ -136,6 +215,43 @@ func TestP2ListsAreTheCallers(t *testing.T) {
 		t.Errorf("places are the program's own: %v, want %v", got, want)
 	}
 	if p.Print() != text {
+		t.Errorf("the program has changed")
+	}
+}
+
+// TestP2ReadyIsTheCallers: as with places.
+func TestP2ReadyIsTheCallers(t *testing.T) {
+	m := started(t, "func w(){x=1;}func main(){go w();go w();}")
+	order(t, m, "00")
+	first, second := m.Ready(), m.Ready()
+	for i := range first[:cap(first)] {
+		first[:cap(first)][i] = -7
+	}
+	_ = append(first, 99)
+	if want := []int{0, 1, 2}; !slices.Equal(second, want) || !slices.Equal(m.Ready(), want) {
+		t.Errorf("ready are %v, then %v, want %v", second, m.Ready(), want)
+	}
+	play(t, m, "2: 2 set@0 -1.0 1")
+}
+
+// TestP2AskingChangesNothing: a machine that is asked all the time goes the way of one that is not; so does its program.
+func TestP2AskingChangesNothing(t *testing.T) {
+	p := mustRead(t, rich)
+	text, places := p.Print(), p.Places()
+	m, n := p.Start(), p.Start()
+	for k := 0; len(n.Ready()) > 0; k++ {
+		asked(m)
+		m.Copy().Step(k)
+		m.Search(2, 2)
+		p.Start().Step(0)
+		if e, f := m.Step(k), n.Step(k); e != f {
+			t.Fatalf("step %d: %s, but %s if not asked", k, tell(e), tell(f))
+		}
+	}
+	if !slices.Equal(asked(m), asked(n)) {
+		t.Errorf("%v, but %v if not asked", asked(m), asked(n))
+	}
+	if p.Print() != text || !slices.Equal(p.Places(), places) {
 		t.Errorf("the program has changed")
 	}
 }

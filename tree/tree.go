@@ -41,6 +41,7 @@ type Atom struct {
 // Statement is a statement of any kind; what its kind does not have is zero.
 type Statement struct {
 	At     int            // the byte at which it begins
+	Place  int            // its number among all statements
 	Kind   int            // api.SSet and so on
 	Left   Name           // what is assigned, or whose field is
 	Op     int            // api.ONone and so on

@@ -9,6 +9,7 @@ import (
 	"races/layout"
 	"races/machine"
 	"races/names"
+	"races/search"
 	"races/tree"
 )
 
@@ -127,4 +128,9 @@ func (m *Machine) Races() map[api.Pair]int {
 }
 
 // Search tells what may have raced so many steps from here, and behind how many at the least; workers look at a time (P10).
-func (m *Machine) Search(depth int, workers int) map[api.Pair]int { return nil }
+func (m *Machine) Search(depth int, workers int) map[api.Pair]int {
+	if m.empty() {
+		return map[api.Pair]int{}
+	}
+	return search.Ahead(m.inner, depth, workers)
+}

@@ -6,6 +6,7 @@ import (
 	"slices"
 	"strings"
 	"testing"
+	"time"
 
 	"races/api"
 )
@@ -70,6 +71,11 @@ func askMachine(t *testing.T, m *Machine, seed int) {
 	for p, n := range m.Copy().Races() {
 		if p.A < 0 || p.A > p.B || p.B >= api.MaxPlaces || n < 1 || n > steps {
 			t.Fatalf("a race that can't be: %v at step %d of %d", p, n, steps)
+		}
+	}
+	for p, n := range m.Search(seed%3, 2) {
+		if p.A < 0 || p.A > p.B || p.B >= api.MaxPlaces || n < 0 || n > seed%3 {
+			t.Fatalf("a race that can't be found: %v behind %d steps of %d", p, n, seed%3)
 		}
 	}
 }
@@ -154,6 +160,9 @@ func idle(t *testing.T, m *Machine) {
 	if r := m.Races(); r == nil || len(r) > 0 {
 		t.Errorf("nothing runs, but it races: %v", r)
 	}
+	if r := m.Search(4, 2); r == nil || len(r) > 0 {
+		t.Errorf("nothing runs, but a race is found: %v", r)
+	}
 }
 
 // TestP1NoFunctions: a run without a function that chooses or sees makes no step.
@@ -165,6 +174,25 @@ func TestP1NoFunctions(t *testing.T) {
 	}
 	if steps := m.Run(zero, yes); steps != 5 {
 		t.Errorf("%d steps behind them, want 5", steps)
+	}
+}
+
+// TestP1AllSearches: no depth and no number of workers makes a search panic, wherever the machine stands.
+func TestP1AllSearches(t *testing.T) {
+	numbers := []int{0, 1, -1, 4, 5, 8, 9, 1 << 40, -1 << 40, math.MaxInt, math.MinInt}
+	for _, text := range []string{rich, writers, "func main(){while 1{go main();}}", "func main(){}"} {
+		m := started(t, text)
+		for k := range 20 {
+			for i, depth := range numbers {
+				workers := numbers[(i+k)%len(numbers)]
+				for p, n := range m.Search(depth, workers) {
+					if n < 0 || n > max(0, min(4, depth)) {
+						t.Fatalf("%q: depth %d, %d workers: %v behind %d steps", text, depth, workers, p, n)
+					}
+				}
+			}
+			m.Step(k)
+		}
 	}
 }
 
@@ -192,9 +220,19 @@ func TestP1NoGoroutineStays(t *testing.T) {
 	for _, s := range samples() {
 		ask(t, s)
 	}
-	if after := runtime.NumGoroutine(); after > before {
-		t.Errorf("%d goroutines, %d before", after, before)
+	noMoreGoroutines(t, before)
+}
+
+// noMoreGoroutines: there are as many as before. They may take a moment to be gone behind their last deed.
+func noMoreGoroutines(t *testing.T, before int) {
+	t.Helper()
+	for range 200 {
+		if runtime.NumGoroutine() <= before {
+			return
+		}
+		time.Sleep(5 * time.Millisecond)
 	}
+	t.Errorf("%d goroutines, %d before", runtime.NumGoroutine(), before)
 }
 
 // TestP2ListsAreTheCallers: what is written into an answer, and into its spare room, changes no later one.

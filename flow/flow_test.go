@@ -31,6 +31,19 @@ func TestFlow(t *testing.T) {
 	}
 }
 
+// TestFunctions: each statement knows its function; mutexes are counted.
+func TestFunctions(t *testing.T) {
+	p := flowOf("mutex m;func f(){if x{x=1;}else{while x{x=2;}}}var v;func e(){}mutex n;func main(){x=3;}")
+	for i, want := range []int{0, 0, 0, 0, 2} {
+		if got := p.Statements[i].Function; got != want {
+			t.Errorf("statement %d is in function %d, want %d", i, got, want)
+		}
+	}
+	if p.Mutexes != 2 || p.Main != 2 {
+		t.Errorf("%d mutexes, main is number %d", p.Mutexes, p.Main)
+	}
+}
+
 // TestFlowOfIfs: without an else what fails goes on behind; an empty block goes on behind, too.
 func TestFlowOfIfs(t *testing.T) {
 	p := flowOf("func main(){if x{y=1;}if x{}else{y=2;}if x{y=3;}else{}}")

@@ -9,6 +9,7 @@ import (
 	"races/layout"
 	"races/machine"
 	"races/names"
+	"races/report"
 	"races/search"
 	"races/tree"
 )
@@ -65,7 +66,16 @@ func (p *Program) Start() *Machine {
 
 // Reports tells what may race, one report after another, till yield says no (P11 to P14).
 func (p *Program) Reports() func(yield func(api.Report) bool) {
-	return func(yield func(api.Report) bool) {}
+	return func(yield func(api.Report) bool) {
+		if p.empty() || yield == nil {
+			return
+		}
+		for r := range report.All(flow.Of(p.source)) {
+			if !yield(r) {
+				return
+			}
+		}
+	}
 }
 
 // empty: it is none that Start has made of a program; the calls still answer.

@@ -5,6 +5,7 @@ import (
 	"runtime"
 	"slices"
 	"strings"
+	"sync"
 	"testing"
 	"time"
 
@@ -41,6 +42,7 @@ func ask(t *testing.T, text string) {
 	if !slices.IsSorted(places) || len(slices.Compact(slices.Clone(places))) != len(places) {
 		t.Fatalf("%q: places do not rise: %v", text, places)
 	}
+	askReports(t, p, len(places))
 	askMachine(t, p.Start(), len(text))
 	printed := p.Print()
 	if len(printed) > api.MaxText {
@@ -49,6 +51,29 @@ func ask(t *testing.T, text string) {
 	again, err := Read(printed)
 	if err != nil || again.Print() != printed || len(again.Places()) != len(places) {
 		t.Fatalf("%q: read again as printed it is another program: %v", text, err)
+	}
+}
+
+// askReports checks what is so of all reports of a program with so many places.
+func askReports(t *testing.T, p *Program, places int) {
+	t.Helper()
+	last := api.Pair{A: -1}
+	for r := range p.Reports() {
+		if r.A < last.A || r.A == last.A && r.B <= last.B || r.A > r.B || r.B >= places {
+			t.Fatalf("%s: %v behind %v", p.Print(), r, last)
+		}
+		last = api.Pair{A: r.A, B: r.B}
+		if r.New < -1 || r.New >= api.MaxNews || r.Field < 0 || r.Field >= api.MaxVars || r.New >= 0 && r.Field > 1 {
+			t.Fatalf("%s: a thing that can't be: %v", p.Print(), r)
+		}
+		if min(r.RootA, r.RootB) < 0 || max(r.RootA, r.RootB) > api.MaxGos || r.RootA+r.RootB == 0 {
+			t.Fatalf("%s: roots that can't be: %v", p.Print(), r)
+		}
+		held := slices.Concat(r.LocksA, r.LocksB)
+		slices.Sort(held)
+		if !slices.IsSorted(r.LocksA) || !slices.IsSorted(r.LocksB) || len(slices.Compact(held)) != len(r.LocksA)+len(r.LocksB) {
+			t.Fatalf("%s: mutexes that can't be: %v", p.Print(), r)
+		}
 	}
 }
 
@@ -133,8 +158,8 @@ func TestP1GreatTexts(t *testing.T) {
 func TestP1NoProgram(t *testing.T) {
 	none, _ := Read("")
 	for _, p := range []*Program{none, {}} {
-		if p.Print() != "" || len(p.Places()) != 0 {
-			t.Errorf("no program, but it has a text or places")
+		if p.Print() != "" || len(p.Places()) != 0 || len(reportsOf(p)) != 0 {
+			t.Errorf("no program, but it has a text, places or reports")
 		}
 		idle(t, p.Start())
 	}
@@ -174,6 +199,16 @@ func TestP1NoFunctions(t *testing.T) {
 	}
 	if steps := m.Run(zero, yes); steps != 5 {
 		t.Errorf("%d steps behind them, want 5", steps)
+	}
+}
+
+// TestP1NoYield: reports that are told to no one are told to no one.
+func TestP1NoYield(t *testing.T) {
+	p := mustRead(t, three)
+	p.Reports()(nil)
+	(&Program{}).Reports()(nil)
+	if got := len(reportsOf(p)); got != 3 {
+		t.Errorf("%d reports behind it, want 3", got)
 	}
 }
 
@@ -272,16 +307,69 @@ func TestP2ReadyIsTheCallers(t *testing.T) {
 	play(t, m, "2: 2 set@0 -1.0 1")
 }
 
+// TestP2ReportsAreTheCallers: as with places; the two lists of a report share nothing either.
+func TestP2ReportsAreTheCallers(t *testing.T) {
+	p := mustRead(t, "var g;mutex m;mutex n;mutex k;func w(){lock m;lock k;g=1;g=3;}func main(){go w();lock n;g=2;}")
+	want := []string{"2-6 var0 roots 1 0 held [0 2] [1]", "3-6 var0 roots 1 0 held [0 2] [1]"}
+	text, reports := p.Print(), p.Reports()
+	for range 3 {
+		var told []string
+		var lists [][]int
+		for r := range reports {
+			told = append(told, tellReport(r))
+			for _, l := range [][]int{r.LocksA, r.LocksB} {
+				for i := range l[:cap(l)] {
+					l[:cap(l)][i] = 100 + len(lists)
+				}
+				lists = append(lists, l)
+			}
+		}
+		if !slices.Equal(told, want) || !slices.Equal(reportsOf(p), want) {
+			t.Fatalf("told %v, want %v", told, want)
+		}
+		for i, l := range lists {
+			if slices.ContainsFunc(l[:cap(l)], func(n int) bool { return n != 100+i }) {
+				t.Errorf("list %d shares memory with another: %v", i, l)
+			}
+		}
+	}
+	if p.Print() != text {
+		t.Errorf("the program has changed")
+	}
+}
+
+// TestP2ReportsAtATime: asking changes nothing, so that many may ask at a time.
+func TestP2ReportsAtATime(t *testing.T) {
+	p := mustRead(t, three)
+	reports, want := p.Reports(), reportsOf(p)
+	var asking sync.WaitGroup
+	for range 8 {
+		asking.Go(func() {
+			for range 20 {
+				var told []string
+				for r := range reports {
+					told = append(told, tellReport(r))
+				}
+				if !slices.Equal(told, want) {
+					t.Errorf("told %v, want %v", told, want)
+				}
+			}
+		})
+	}
+	asking.Wait()
+}
+
 // TestP2AskingChangesNothing: a machine that is asked all the time goes the way of one that is not; so does its program.
 func TestP2AskingChangesNothing(t *testing.T) {
 	p := mustRead(t, rich)
-	text, places := p.Print(), p.Places()
+	text, places, reports := p.Print(), p.Places(), reportsOf(p)
 	m, n := p.Start(), p.Start()
 	for k := 0; len(n.Ready()) > 0; k++ {
 		asked(m)
 		m.Copy().Step(k)
 		m.Search(2, 2)
 		p.Start().Step(0)
+		reportsOf(p)
 		if e, f := m.Step(k), n.Step(k); e != f {
 			t.Fatalf("step %d: %s, but %s if not asked", k, tell(e), tell(f))
 		}
@@ -289,7 +377,7 @@ func TestP2AskingChangesNothing(t *testing.T) {
 	if !slices.Equal(asked(m), asked(n)) {
 		t.Errorf("%v, but %v if not asked", asked(m), asked(n))
 	}
-	if p.Print() != text || !slices.Equal(p.Places(), places) {
+	if p.Print() != text || !slices.Equal(p.Places(), places) || !slices.Equal(reportsOf(p), reports) {
 		t.Errorf("the program has changed")
 	}
 }
